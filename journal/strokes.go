@@ -34,66 +34,49 @@ func (j *Journal) keep(parts [][]byte, strokes func(record []byte) []stroke) (an
 	return api.OK
 }
 
-// adding is the row of an Add's strokes.
+// adding is the row of an Add's strokes. That the file is mended is noted at once: it stays so, whatever becomes of the strokes behind.
 func (j *Journal) adding(record []byte) []stroke {
+	var row []stroke
 	d := j.files()
-	row := []stroke{
-		withBytes(d.Append, j.name, record),
-		onFile(d.Sync, j.name),
-	}
 	if j.torn {
-		row = append([]stroke{j.mend}, row...)
+		row = append(row, with(d.Cut, j.name, j.good()), noted(func() { j.torn = false }))
 	}
+	row = append(row, with(d.Append, j.name, record), on(d.Sync, j.name))
 	if !j.named {
 		row = append(row, d.SyncNames)
 	}
 	return row
 }
 
-// mend cuts off what a crash has left of a record; that is done, whatever becomes of the strokes behind it.
-func (j *Journal) mend() api.Errno {
-	e := j.files().Cut(j.name, j.good())
-	j.torn = e != api.OK
-	return e
-}
-
-// replacing is the row of a Checkpoint's strokes; the older records are let go behind the last of them.
+// replacing is the row of a Checkpoint's strokes. The older records are let go behind the last one: no name leads to their file any more.
 func (j *Journal) replacing(record []byte) []stroke {
-	d := j.files()
-	return []stroke{
-		j.clearSecond,
-		withBytes(d.Append, j.second(), record),
-		onFile(d.Sync, j.second()),
-		func() api.Errno { return d.Rename(j.second(), j.name) },
-		d.SyncNames,
-		j.forget,
+	var row []stroke
+	d, second := j.files(), j.name+secondEnd
+	if _, e := d.Size(second); e == api.OK {
+		row = append(row, on(d.Remove, second))
 	}
+	return append(row,
+		with(d.Append, second, record),
+		on(d.Sync, second),
+		with(d.Rename, second, j.name),
+		d.SyncNames,
+		noted(func() { j.records, j.torn = nil, false }),
+	)
 }
 
-// clearSecond removes what a Checkpoint that a crash met has left.
-func (j *Journal) clearSecond() api.Errno {
-	d := j.files()
-	_, e := d.Size(j.second())
-	if e == api.ErrDiskNone {
+// on and with bind a call of the disk to the file that it is made for, and to what it is given beside.
+func on(call func(string) api.Errno, file string) stroke {
+	return func() api.Errno { return call(file) }
+}
+
+func with[A any](call func(string, A) api.Errno, file string, beside A) stroke {
+	return func() api.Errno { return call(file, beside) }
+}
+
+// noted makes a step of what is only to be noted: it is never refused.
+func noted(note func()) stroke {
+	return func() api.Errno {
+		note()
 		return api.OK
 	}
-	if e != api.OK {
-		return e
-	}
-	return d.Remove(j.second())
-}
-
-// forget drops all records: the file that held them has no name any more.
-func (j *Journal) forget() api.Errno {
-	j.records, j.torn = nil, false
-	return api.OK
-}
-
-// onFile and withBytes bind a call of the disk to what it is made for.
-func onFile(call func(string) api.Errno, name string) stroke {
-	return func() api.Errno { return call(name) }
-}
-
-func withBytes(call func(string, []byte) api.Errno, name string, b []byte) stroke {
-	return func() api.Errno { return call(name, b) }
 }
